@@ -6,6 +6,9 @@ A stroke is a list: ALONG, a height, a board, a board; or DOWN, a board.
 ALONG = 0
 DOWN = 1
 
+LEFT = 0
+RIGHT = 1
+
 
 def largest_poster(heights):
     """How many cells the largest poster that fits has, from which board on, how wide it is."""
@@ -44,6 +47,12 @@ def least_raise(heights, width, height):
     return best
 
 
+def raised(heights, board, width, height):
+    """The heights once the boards from this one on are no lower than the poster is high."""
+    past = board + width
+    return heights[:board] + [max(own, height) for own in heights[board:past]] + heights[past:]
+
+
 def higher_parts(heights, first, past, level):
     """The parts of boards side by side above a level: the first board of each, and the board past its last."""
     parts = []
@@ -73,6 +82,29 @@ def fence_strokes(heights):
     return part_strokes(heights, 0, len(heights), 0)
 
 
+def boards_from(heights, end):
+    """All boards, in the order in which one comes by them from this end on."""
+    if end == LEFT:
+        return list(range(len(heights)))
+    return list(range(len(heights) - 1, -1, -1))
+
+
+def seen_boards(heights, end):
+    """The boards that are higher than all between them and this end, from it on."""
+    found = []
+    highest = 0
+    for board in boards_from(heights, end):
+        if heights[board] > highest:
+            found.append(board)
+            highest = heights[board]
+    return found
+
+
+def has_board(heights, board):
+    """Whether there is a board of this number, which is never below 0."""
+    return board < len(heights)
+
+
 def is_stroke(stroke):
     """Whether a list is told as strokes are, be it one that can be done or not."""
     if len(stroke) == 4:
@@ -85,11 +117,11 @@ def is_stroke(stroke):
 def can_be_done(heights, stroke):
     """Whether the brush can go as the stroke tells."""
     if stroke[0] == DOWN:
-        return stroke[1] < len(heights)
+        return has_board(heights, stroke[1])
     height = stroke[1]
     first = stroke[2]
     last = stroke[3]
-    if height == 0 or first > last or last >= len(heights):
+    if height == 0 or first > last or not has_board(heights, last):
         return False
     return height <= min(heights[first:last + 1])
 

@@ -32,6 +32,26 @@ def judge(*handed):
     return call
 
 
+def seen(end):
+    return [6, 1, end, 0]
+
+
+def board(which, height):
+    return [7, 2, which, height, 0]
+
+
+def swap(which, other):
+    return [8, 2, which, other, 0]
+
+
+def hang(width, height):
+    return [9, 2, width, height, 0]
+
+
+def look():
+    return [10, 0, 0]
+
+
 def ask(*calls):
     """The answer to each of the calls of one line."""
     told = answers([number for call in calls for number in call])
@@ -48,6 +68,13 @@ def ask(*calls):
 def on(heights, call):
     """The answer to one call on a new fence."""
     return ask(begin(*heights), call)[1]
+
+
+def behind(heights, *calls):
+    """The answers to calls on a new fence, and how high its boards are behind them."""
+    parts = ask(begin(*heights), *calls, look())
+    assert parts[-1][0] == len(parts[-1]) - 1
+    return parts[1:-1], parts[-1][1:]
 
 
 def fences(most_boards, most_high):
